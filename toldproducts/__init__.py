@@ -1,0 +1,1 @@
+"""Toldproducts: rows multiplied by any table."""

@@ -1,0 +1,41 @@
+"""What is handed in, looked at before it is used."""
+
+from toldproducts.errors import InvalidNumber, InvalidRow, InvalidSpan
+from toldproducts.ratios import is_lowest
+from toldproducts.solving import is_form
+
+
+def copied(rows):
+    """Return a list of rows anew, with new rows."""
+    return [list(row) for row in rows]
+
+
+def check_number(pair):
+    """Raise InvalidNumber if a tuple is no number."""
+    if not is_lowest(pair):
+        raise InvalidNumber(pair)
+
+
+def check_numbers(row):
+    """Raise InvalidNumber for the first of a row that is no number."""
+    for pair in row:
+        check_number(pair)
+
+
+def check_rows(rows):
+    """Raise InvalidNumber for the first of some rows that is no number."""
+    for row in rows:
+        check_numbers(row)
+
+
+def check_sizes(rows, size):
+    """Raise InvalidRow for the first row that has not the size."""
+    for row in rows:
+        if len(row) != size:
+            raise InvalidRow(list(row))
+
+
+def check_form(rows):
+    """Raise InvalidSpan if rows of one size are no form of a span."""
+    if not is_form(rows):
+        raise InvalidSpan(copied(rows))
