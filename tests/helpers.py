@@ -4,6 +4,8 @@ import copy
 import random
 from fractions import Fraction
 
+from toldproducts.tables import Table
+
 
 def n(above, below=1):
     """The number of a fraction."""
@@ -117,7 +119,10 @@ class Checks:
         self.assertEqual(handed, before)
 
     def check_call(self, function, handed):
-        """By position and by name alike; nothing handed in is changed or kept, and what is told is new each time."""
+        """By position and by name alike; nothing handed in is changed or kept, and what is told is new each time.
+
+        Changing what was told, or what was handed in, changes neither a table nor a later answer.
+        """
         before = copy.deepcopy(handed)
         answer = function(*handed.values())
         kept = copy.deepcopy(answer)
@@ -131,5 +136,9 @@ class Checks:
         for part in handed.values():
             spoil(part)
         self.assertEqual(again, kept)
+        for name, part in handed.items():
+            if isinstance(part, Table):
+                self.assertEqual(part, before[name])
+                before[name] = part
         self.assertEqual(function(**copy.deepcopy(before)), kept)
         return kept

@@ -1,14 +1,19 @@
 import unittest
 
 from tests.helpers import any_rows, n, plain_form, plain_sum, row, some
-from toldproducts.elimination import form_of, shortened, stepped_down, stepped_up
-from toldproducts.guesses import PRIME, guessed_form
+from toldproducts.elimination import eliminated, form_of, shortened, stepped_down, stepped_up
+from toldproducts.guesses import PRIME, leads_over_prime, rebuilt_form, tells
 from toldproducts.ratios import whole
 from toldproducts.rows import relations, span, told_by
 
 
 def whole_rows(lists):
     return [whole(entries)[0] for entries in lists]
+
+
+def guessed_form(wholes, size):
+    form = rebuilt_form(leads_over_prime(wholes, size))
+    return form if form is not None and tells(form, wholes, size) else None
 
 
 class Ways(unittest.TestCase):
@@ -20,7 +25,7 @@ class Ways(unittest.TestCase):
             lists.append(plain_sum([n(2)] * many, lists, size))
             wholes = [entries for entries in whole_rows(lists) if any(entries)]
             expected = plain_form(lists)
-            self.assertEqual(stepped_up(stepped_down(wholes, size), size), expected)
+            self.assertEqual(eliminated(wholes, size), expected)
             self.assertIn(guessed_form(wholes, size), (expected, None))
 
     def test_a_free_column_ahead_of_a_later_lead(self):
@@ -36,6 +41,27 @@ class Ways(unittest.TestCase):
     def test_short_numbers_are_guessed_and_long_ones_are_not(self):
         self.assertEqual(guessed_form([[3, 1, -2]], 3), [row(1, "1/3", "-2/3")])
         self.assertIs(guessed_form([[3 ** 60, 2 ** 90, 1]], 3), None)
+
+    def test_leads_tell_the_rows_that_they_came_from(self):
+        lists = [[1, 2, 3], [2, 4, 6], [0, 0, 0], [1, 2, 4], [5, 10, 1]]
+        leads = leads_over_prime(lists, 3)
+        self.assertEqual([(place, number) for place, _, number in leads], [(0, 0), (2, 3)])
+        self.assertEqual([entries for _, entries, _ in leads], [[1, 2, 0], [0, 0, 1]])
+
+    def test_tells(self):
+        form = [row(1, "1/2", 0), row(0, 0, 1)]
+        self.assertTrue(tells(form, [], 3))
+        self.assertTrue(tells(form, [[2, 1, 7], [0, 0, -1]], 3))
+        self.assertFalse(tells(form, [[2, 1, 7], [2, 0, 0]], 3))
+        self.assertFalse(tells([], [[0, 1]], 2))
+
+    def test_long_numbers_of_many_rows(self):
+        source = some(3)
+        for rank, size in [(1, 3), (2, 4), (3, 5), (5, 5)]:
+            basis = [[n(source.randint(-2 ** 90, 2 ** 90), source.randint(1, 2 ** 40)) for _ in range(size)]
+                     for _ in range(rank)]
+            lists = [plain_sum([n(source.randint(-5, 5)) for _ in basis], basis, size) for _ in range(6)] + basis
+            self.assertEqual(form_of(lists, size), plain_form(lists))
 
     def test_shortened(self):
         for entries, expected in [([], []), ([0, 0], [0, 0]), ([-4, 6, 0], [-2, 3, 0]), ([5], [1]), ([3, 7], [3, 7])]:
@@ -61,3 +87,14 @@ class GuessesThatWouldBeWrong(unittest.TestCase):
         self.assertEqual(relations([row(1, 1), [n(1), n(PRIME + 1)]]), [])
         self.assertEqual(told_by(row(0, 1), [row(1, 1), [n(1), n(PRIME + 1)]]), [n(-1, PRIME), n(1, PRIME)])
         self.assertIs(told_by([n(1), n(PRIME)], [row(1, 0)]), None)
+
+    def test_a_rank_that_seems_to_be_less_among_long_numbers(self):
+        long = [n(3 ** 60), n(2 ** 90), n(1)]
+        other = [n(3 ** 60), n(2 ** 90), n(PRIME + 1)]
+        self.assertEqual(span([long, other], 3), plain_form([long, other]))
+        self.assertEqual(span([other, long, long], 3), plain_form([long, other]))
+
+    def test_a_first_place_that_seems_to_be_another(self):
+        lists = [[n(PRIME), n(3 ** 60), n(2 ** 90)], [n(0), n(1), n(5)]]
+        for left in (lists[:1], lists, lists[::-1]):
+            self.assertEqual(span(left, 3), plain_form(left))

@@ -21,6 +21,32 @@ TABLES = """
 [None, ([(0, 1), (1, 1)], [[(1, 1), (-1, 1)]]), [(7, 1), (14, 1)]]
 """
 
+SAYINGS = TABLES + """
+>>> from toldproducts.sayings import expanded, first_breaking, follows, holds, linear, monomials, sayings_of, worth
+>>> a, b, c = ("letter", "a"), ("letter", "b"), ("letter", "c")
+>>> less = lambda one, other: ("plus", one, ("take", (-1, 1), other))
+>>> grouped, either = less(("times", ("times", a, b), c), ("times", a, ("times", b, c))), less(("times", a, b), ("times", b, a))
+>>> [expanded(either), linear(("times", a, a)), monomials(2), worth(turn, either, [[(1, 1), (2, 1)], [(3, 1), (4, 1)]])]
+[[((1, 1), ('a', 'b')), ((-1, 1), ('b', 'a'))], [[((1, 1), ('a', 'b')), ((1, 1), ('b', 'a'))]], [('a', 'b'), ('b', 'a')], [(0, 1), (0, 1)]]
+>>> [holds(turn, either), holds(second, grouped), first_breaking(second, either), sayings_of(turn, 2), follows(less(("times", ("times", a, b), c), ("times", c, ("times", a, b))), [either]), follows(grouped, [either])]
+[True, True, [[(1, 1), (0, 1)], [(0, 1), (1, 1)]], [[(1, 1), (-1, 1)]], True, False]
+"""
+
+PARTS = TABLES + """
+>>> from toldproducts.parts import is_two_sided, killers, left_over, part, two_sided
+>>> [part(turn, [[(0, 1), (1, 1)]]), part(second, [[(0, 1), (1, 1)]]), two_sided(second, [[(1, 1), (-1, 1)]]), killers(second, [[(1, 1), (0, 1)], [(0, 1), (1, 1)]]), left_over(second, [[(1, 1), (-1, 1)]]).products]
+[[[(1, 1), (0, 1)], [(0, 1), (1, 1)]], [[(0, 1), (1, 1)]], [[(1, 1), (-1, 1)]], ([[(1, 1), (-1, 1)]], []), [[[(1, 1)]]]]
+"""
+
+KEEPERS = TABLES + """
+>>> from toldproducts.keepers import along, commuting, first_unlike_product, keepers, nucleus
+>>> still = Table([[[(0, 1), (1, 1)], [(0, 1), (0, 1)]], [[(0, 1), (0, 1)], [(0, 1), (0, 1)]]])
+>>> [keepers(turn, (1, 1), (1, 1), (1, 1)), keepers(still, (1, 1), (1, 1), (1, 1)), along([[(0, 1), (1, 1)], [(0, 1), (0, 1)]], [(3, 1), (5, 1)])]
+[[], [[[(1, 1), (0, 1)], [(0, 1), (2, 1)]], [[(0, 1), (1, 1)], [(0, 1), (0, 1)]]], [(0, 1), (3, 1)]]
+>>> [commuting(second), nucleus(second, 1), first_unlike_product(turn, turn, [[(1, 1), (0, 1)], [(0, 1), (-1, 1)]]), first_unlike_product(turn, turn, [[(1, 1), (0, 1)], [(0, 1), (2, 1)]])]
+[[], [[(1, 1), (0, 1)], [(0, 1), (1, 1)]], None, (1, 1)]
+"""
+
 
 class Examples(unittest.TestCase):
     def check(self, text, name):
@@ -35,3 +61,12 @@ class Examples(unittest.TestCase):
 
     def test_tables(self):
         self.check(TABLES, "tables")
+
+    def test_sayings(self):
+        self.check(SAYINGS, "sayings")
+
+    def test_parts(self):
+        self.check(PARTS, "parts")
+
+    def test_keepers(self):
+        self.check(KEEPERS, "keepers")

@@ -1,6 +1,6 @@
 """What is handed in, looked at before it is used."""
 
-from toldproducts.errors import InvalidNumber, InvalidRow, InvalidSpan
+from toldproducts.errors import InvalidMap, InvalidNumber, InvalidRow, InvalidSpan
 from toldproducts.ratios import is_lowest
 from toldproducts.solving import is_form
 
@@ -39,3 +39,20 @@ def check_form(rows):
     """Raise InvalidSpan if rows of one size are no form of a span."""
     if not is_form(rows):
         raise InvalidSpan(copied(rows))
+
+
+def check_span(rows, size):
+    """Raise InvalidSpan if rows are no form of a span of rows of the size."""
+    if not has_sizes(rows, size) or not is_form(rows):
+        raise InvalidSpan(copied(rows))
+
+
+def check_map(rows, many, size):
+    """Raise InvalidMap if rows are not so many rows of the size."""
+    if len(rows) != many or not has_sizes(rows, size):
+        raise InvalidMap(copied(rows))
+
+
+def has_sizes(rows, size):
+    """Return True if all rows have the size."""
+    return all([len(row) == size for row in rows])

@@ -2,7 +2,7 @@
 
 from math import gcd, lcm
 
-from toldproducts.guesses import guessed_form
+from toldproducts.guesses import leads_over_prime, rebuilt_form, tells
 from toldproducts.ratios import NOUGHT, ONE, lowest, whole
 
 
@@ -10,9 +10,22 @@ def form_of(rows, width):
     """Return the form of the span of rows of so many numbers."""
     wholes = [shortened(whole(row)[0]) for row in rows]
     wholes = [row for row in wholes if any(row)]
-    form = guessed_form(wholes, width)
-    # A form of long numbers is not guessed; then the steps of elimination tell it.
-    return stepped_up(stepped_down(wholes, width), width) if form is None else form
+    leads = leads_over_prime(wholes, width)
+    # The rows have at least the rank that they have over the prime. So a form of this rank
+    # that tells all of them is the right one, whatever the prime was.
+    form = rebuilt_form(leads)
+    if form is not None and tells(form, wholes, width):
+        return form
+    # The rows that told the leads span a form of this rank, of numbers of any length.
+    taken = [lead[2] for lead in leads]
+    form = eliminated([wholes[at] for at in taken], width)
+    left = [row for at, row in enumerate(wholes) if at not in taken]
+    return form if tells(form, left, width) else eliminated(wholes, width)
+
+
+def eliminated(wholes, width):
+    """Return the form of the span of rows of integers, by elimination alone."""
+    return stepped_up(stepped_down(wholes, width), width)
 
 
 def stepped_down(wholes, width):

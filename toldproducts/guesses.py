@@ -1,6 +1,6 @@
 """The form of a span, guessed by what is left over a great prime, and proved."""
 
-from toldproducts.ratios import lowest, whole
+from toldproducts.ratios import first_place, lowest, whole
 
 # The prime 2 ** 127 - 1: a wrong guess is all but out of the question, and its numbers are still short.
 PRIME = 170141183460469231731687303715884105727
@@ -8,41 +8,41 @@ PRIME = 170141183460469231731687303715884105727
 BOUND = 2 ** 62
 
 
-def guessed_form(wholes, width):
-    """Return the form of the span of rows of integers, None if this way does not find it."""
-    leads = leads_over_prime(wholes, width)
-    form = []
-    for _, lead in leads:
-        row = rebuilt_row(lead)
-        if row is None:
-            return None
-        form.append(row)
-    # The rows have at least the rank that they have over the prime. So a form of this rank
-    # that tells all of them is the right one, whatever the prime was.
-    places = [place for place, _ in leads]
-    return form if tells(form, places, wholes, width) else None
-
-
 def leads_over_prime(wholes, width):
-    """Return the form over the prime, as a list of tuples (first place, row) by their places."""
+    """Return the form over the prime, as a list of tuples (first place, row, place of the row that told it)."""
     leads = []
-    for row in wholes:
+    for number, row in enumerate(wholes):
         rest = rest_over_prime(row, leads)
         place = first_standing(rest)
         if place == width:
             continue
         share = euclid(rest[place], 1)[1]
-        lead = (place, [entry * share % PRIME for entry in rest])
-        leads = [(at, rest_over_prime(elder, [lead])) for at, elder in leads] + [lead]
+        lead = (place, [entry * share % PRIME for entry in rest], number)
+        elders = [
+            (at, rest_over_prime(elder, [lead]) if elder[place] != 0 else elder, elder_number)
+            for at, elder, elder_number in leads
+        ]
+        leads = [*elders, lead]
         if len(leads) == width:
             break
-    return sorted(leads, key=lambda pair: pair[0])
+    return sorted(leads, key=lambda lead: lead[0])
+
+
+def rebuilt_form(leads):
+    """Return the form of small numbers that is alike to a form over the prime, None if there is none."""
+    form = []
+    for _, lead, _ in leads:
+        row = rebuilt_row(lead)
+        if row is None:
+            return None
+        form.append(row)
+    return form
 
 
 def rest_over_prime(row, leads):
     """Return what is left of a row when the leads are taken off at their places."""
     # Each lead is 0 at the places of the others, so all can be taken off at once.
-    shares = [(row[place], lead) for place, lead in leads if row[place] != 0]
+    shares = [(row[place], lead) for place, lead, _ in leads if row[place] != 0]
     return [(entry - sum([share * lead[at] for share, lead in shares])) % PRIME for at, entry in enumerate(row)]
 
 
@@ -75,8 +75,9 @@ def rebuilt_row(row):
     return numbers
 
 
-def tells(form, places, wholes, width):
+def tells(form, wholes, width):
     """Return True if each row of integers is the sum of the rows of a form, each times its number at their places."""
+    places = [first_place(row) for row in form]
     entries, below = whole([pair for row in form for pair in row])
     leads = [(place, entries[at * width:(at + 1) * width]) for at, place in enumerate(places)]
     free = [at for at in range(width) if at not in places]

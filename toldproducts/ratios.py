@@ -30,6 +30,14 @@ def multiplied(one, other):
     return lowest(one[0] * other[0], one[1] * other[1])
 
 
+def first_place(row):
+    """Return the place of the first number that is not 0, their count if there is none."""
+    for at, pair in enumerate(row):
+        if pair != NOUGHT:
+            return at
+    return len(row)
+
+
 def whole(row):
     """Return the tuple (integers, below): the tuples of a row over their least common below."""
     below = 1

@@ -1,12 +1,17 @@
 """Rows that are known to be right: their sums, and the numbers with which they add up."""
 
 from toldproducts.elimination import form_of
-from toldproducts.ratios import NOUGHT, ONE, negative, total
+from toldproducts.ratios import NOUGHT, ONE, first_place, negative, total
 
 
 def unit_row(size, place):
     """Return the unit of a size."""
     return [ONE if at == place else NOUGHT for at in range(size)]
+
+
+def unit_rows(size):
+    """Return all units of a size."""
+    return [unit_row(size, at) for at in range(size)]
 
 
 def added(numbers, rows, size):
@@ -15,12 +20,9 @@ def added(numbers, rows, size):
     return [total([(one[0] * other[0], one[1] * other[1]) for one, other in column]) for column in columns]
 
 
-def first_place(row):
-    """Return the place of the first number that is not 0, their count if there is none."""
-    for at, pair in enumerate(row):
-        if pair != NOUGHT:
-            return at
-    return len(row)
+def less(one, other):
+    """Return a row less another one."""
+    return added([ONE, negative(ONE)], [one, other], len(one))
 
 
 def is_form(rows):

@@ -1,9 +1,9 @@
 """Tables: the products of all units, and so of all rows."""
 
-from toldproducts.checks import check_number, check_numbers, check_rows, check_sizes, copied
-from toldproducts.errors import InvalidBasis, InvalidMap, InvalidTable, UnlikeSizes
+from toldproducts.checks import check_map, check_number, check_numbers, check_rows, check_sizes, copied, has_sizes
+from toldproducts.errors import InvalidBasis, InvalidTable, UnlikeSizes
 from toldproducts.ratios import NOUGHT, ONE, lowest, multiplied, whole
-from toldproducts.solving import added, all_told, related, told, unit_row
+from toldproducts.solving import added, all_told, related, told, unit_row, unit_rows
 
 
 class Table:
@@ -38,27 +38,31 @@ class Table:
 
     def product_of(self, one, other):
         """Return the product of two rows that are known to be right."""
-        lefts, left_below = whole(one)
-        rights, right_below = whole(other)
+        entries, below = self.product_over(whole(one), whole(other))
+        return [lowest(entry, below) for entry in entries]
+
+    def product_over(self, one, other):
+        """Return the tuple (integers, below) of the product of two rows that are told by such tuples."""
+        lefts, left_below = one
+        rights, right_below = other
         shares = [left * right for left in lefts for right in rights]
         sums = [0] * len(lefts)
         for share, row in zip(shares, self._wholes):
             if share != 0:
                 sums = [entry + share * more for entry, more in zip(sums, row)]
-        below = left_below * right_below * self._below
-        return [lowest(entry, below) for entry in sums]
+        return (sums, left_below * right_below * self._below)
 
 
 def left_map(table, row):
     """Return the list of the products of a row, on the left, with each unit."""
     _check_row_of(table, row)
-    return [table.product_of(row, one) for one in _units(table)]
+    return [table.product_of(row, one) for one in unit_rows(table.size)]
 
 
 def right_map(table, row):
     """Return the list of the products of each unit with a row, on the right."""
     _check_row_of(table, row)
-    return [table.product_of(one, row) for one in _units(table)]
+    return [table.product_of(one, row) for one in unit_rows(table.size)]
 
 
 def opposite(table):
@@ -111,17 +115,15 @@ def over(table, rows):
 def changed(table, left, right):
     """Return the table of the product of the images of both rows, by a map for each side."""
     check_rows([*left, *right])
-    if not _is_square(left, table.size):
-        raise InvalidMap(copied(left))
-    if not _is_square(right, table.size):
-        raise InvalidMap(copied(right))
+    check_map(left, table.size, table.size)
+    check_map(right, table.size, table.size)
     return Table([[table.product_of(one, other) for other in right] for one in left])
 
 
 def with_one(table):
     """Return the table of size one more whose unit 0 is a one, followed by the elder units."""
     size = table.size + 1
-    first = [unit_row(size, at) for at in range(size)]
+    first = unit_rows(size)
     later = [[[NOUGHT] + row for row in rows] for rows in table.products]
     return Table([first] + [[unit_row(size, at + 1)] + rows for at, rows in enumerate(later)])
 
@@ -143,22 +145,14 @@ def right_ones(table):
     return left_ones(opposite(table))
 
 
-def _is_square(rows, size):
-    return len(rows) == size and all([len(row) == size for row in rows])
-
-
 def _is_cube(products):
     size = len(products)
-    return size >= 1 and all([_is_square(rows, size) for rows in products])
+    return size >= 1 and all([len(rows) == size and has_sizes(rows, size) for rows in products])
 
 
 def _check_row_of(table, row):
     check_numbers(row)
     check_sizes([row], table.size)
-
-
-def _units(table):
-    return [unit_row(table.size, at) for at in range(table.size)]
 
 
 def _mixed(one, other, number):
@@ -179,4 +173,4 @@ def _actions(table):
 
 def _still(table):
     """Return all units one behind the other: what a left one makes of them."""
-    return [pair for row in _units(table) for pair in row]
+    return [pair for row in unit_rows(table.size) for pair in row]

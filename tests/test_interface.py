@@ -1,0 +1,42 @@
+"""The names and arguments of the interface, and where they are defined."""
+
+import importlib
+import inspect
+import unittest
+
+FUNCTIONS = {
+    "rows": """number(above, below) unit(size, place) noughts(size) sum_of(one, other) times(number, row)
+        combined(numbers, rows, size) span(rows, size) is_within(span, row) places(span, row) told_by(row, rows)
+        relations(rows) joined(one, other, size) met(one, other, size)""",
+    "tables": """left_map(table, row) right_map(table, row) opposite(table) both_ways(table, number)
+        blended(one, other, number) beside(one, other) crossed(one, other) over(table, rows) changed(table, left, right)
+        with_one(table) ones(table) left_ones(table) right_ones(table)""",
+    "sayings": """letters(term) worth(table, term, rows) expanded(term) degrees(term) same_everywhere(one, other)
+        holds(table, term) first_breaking(table, term) is_linear(term) linear(term) monomials(many)
+        sayings_of(table, many) owed(terms, many) follows(term, terms)""",
+    "parts": """products_of(table, one, other) part(table, rows) left_part(table, rows) right_part(table, rows)
+        two_sided(table, rows) grown(table, rows) is_part(table, span) is_two_sided(table, span) killers(table, span)
+        held_by(table, span) part_table(table, span) left_over(table, span) led_down(table, span, row)
+        goes_between(table, one, other, row)""",
+    "keepers": """along(told, row) behind(one, other) bracket(one, other) keepers(table, u, v, w)
+        first_not_kept(table, u, v, w, told) first_unlike_product(table, other, told) taken_to_nothing(told)
+        come_to(told) commuting(table) nucleus(table, side) centre(table)""",
+}
+
+
+class Interface(unittest.TestCase):
+    def test_functions(self):
+        for name, text in FUNCTIONS.items():
+            module = importlib.import_module(f"toldproducts.{name}")
+            for listed in text.replace(", ", ",").split():
+                function = getattr(module, listed.split("(")[0])
+                self.assertTrue(inspect.isfunction(function), listed)
+                self.assertEqual(function.__module__, module.__name__)
+                self.assertEqual(f"{function.__name__}{inspect.signature(function)}".replace(", ", ","), listed)
+
+    def test_table(self):
+        kind = importlib.import_module("toldproducts.tables").Table
+        self.assertEqual(str(inspect.signature(kind)), "(products)")
+        self.assertEqual(str(inspect.signature(kind.__call__)), "(self, one, other)")
+        for name in ("size", "products"):
+            self.assertIsInstance(vars(kind)[name], property)
