@@ -10,7 +10,7 @@ from tests.plain import (
 )
 from toldproducts.rows import is_within
 from toldproducts.sayings import expanded, follows, holds, monomials, owed, sayings_of
-from toldproducts.tables import Table
+from toldproducts.tables import Table, opposite, over
 
 TURN = [rows([1, 0], [0, 1]), rows([0, 1], [-1, 0])]
 SECOND = [rows([1, 0], [0, 1]), rows([1, 0], [0, 1])]
@@ -116,7 +116,10 @@ class SayingsOf(Checks, unittest.TestCase):
     def test_a_table_over_another_basis_and_its_opposite(self):
         source = some(35)
         for products in (TURN, SECOND, STILL, CROSS, UPPER, any_products(source, 2, 2), any_products(source, 3, 1)):
-            turned = plain_over(products, any_basis(source, len(products), 3))
+            basis = any_basis(source, len(products), 3)
+            turned = plain_over(products, basis)
+            self.assertEqual(over(Table(products), basis), Table(turned))
+            self.assertEqual(opposite(Table(turned)), Table(plain_opposite(turned)))
             for many in (1, 2, 3, 4):
                 told = sayings_of(Table(products), many)
                 self.assertEqual(sayings_of(Table(turned), many), told)

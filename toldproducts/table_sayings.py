@@ -27,16 +27,19 @@ def sayings_by(table, many):
 def _worths_at_units(table, monomials, letters):
     """Return for each monomial the list of all integers that it gives at all units, over the same below."""
     steps = _steps(monomials)
-    texts = [text_of(monomial) for monomial in monomials]
-    units = [([1 if at == place else 0 for at in range(table.size)], 1) for place in range(table.size)]
-    lists = [[] for _ in monomials]
+    units = [(entries, 1) for entries in _whole_units(table.size)]
+    worths = []
     for choice in _choices(letters, units):
         known = dict(choice)
         for text, left, right in steps:
             known[text] = table.product_over(known[left], known[right])
-        for entries, text in zip(lists, texts):
-            entries.extend(known[text][0])
-    return lists
+        worths.append(known)
+    names = [text_of(monomial) for monomial in monomials]
+    return [[entry for worth in worths for entry in worth[name][0]] for name in names]
+
+
+def _whole_units(size):
+    return [[1 if at == place else 0 for at in range(size)] for place in range(size)]
 
 
 def _steps(monomials):
