@@ -47,6 +47,30 @@ KEEPERS = TABLES + """
 [[], [[(1, 1), (0, 1)], [(0, 1), (1, 1)]], None, (1, 1)]
 """
 
+POWERS = KEEPERS + """
+>>> from toldproducts.powers import comes_again, first_nothing, first_unlike_power, least_row, power, solved
+>>> [power(turn, [(0, 1), (1, 1)], 3), least_row(turn, [(1, 1), (1, 1)]), comes_again(turn, [(0, 1), (1, 1)]), first_nothing(still, [(1, 1), (0, 1)]), solved(turn, [(0, 1), (1, 1)], [(1, 1), (0, 1)]), solved(still, [(1, 1), (0, 1)], [(0, 1), (2, 1)])]
+[[(0, 1), (-1, 1)], [(2, 1), (-2, 1)], (1, 4), 3, ([(0, 1), (-1, 1)], []), ([(2, 1), (0, 1)], [[(0, 1), (1, 1)]])]
+>>> lean = Table([[[(0, 1), (1, 1)], [(0, 1), (1, 1)]], [[(1, 1), (0, 1)], [(0, 1), (0, 1)]]])
+>>> [first_unlike_power(turn, [(1, 1), (1, 1)]), first_unlike_power(lean, [(1, 1), (0, 1)]), comes_again(turn, [(1, 1), (1, 1)])]
+[None, 3, None]
+"""
+
+CHAINS = KEEPERS + """
+>>> from toldproducts.chains import down, first_alive, steps_down, steps_up, up, wordings
+>>> whole = [[(1, 1), (0, 1)], [(0, 1), (1, 1)]]
+>>> [down(still, whole, "both"), steps_down(still, whole, "square"), steps_down(turn, whole, "left"), up(still), steps_up(second)]
+[[[[(1, 1), (0, 1)], [(0, 1), (1, 1)]], [[(0, 1), (1, 1)]], []], 2, None, [[], [[(0, 1), (1, 1)]], [[(1, 1), (0, 1)], [(0, 1), (1, 1)]]], None]
+>>> [wordings(3), first_alive(still, whole, 2), first_alive(still, whole, 3)]
+[[('x', ('x', 'x')), (('x', 'x'), 'x')], ('x', 'x'), None]
+"""
+
+FORMS = KEEPERS + """
+>>> from toldproducts.forms import form_worth, is_even, moved_forms, null_span, trace_form
+>>> [moved_forms(turn), trace_form(turn), form_worth(trace_form(turn), [(1, 1), (2, 1)], [(0, 1), (1, 1)]), null_span(trace_form(still), 0), is_even(trace_form(turn))]
+[[[[(1, 1), (0, 1)], [(0, 1), (-1, 1)]], [[(0, 1), (1, 1)], [(1, 1), (0, 1)]]], [[(2, 1), (0, 1)], [(0, 1), (-2, 1)]], (-4, 1), [[(1, 1), (0, 1)], [(0, 1), (1, 1)]], True]
+"""
+
 
 class Examples(unittest.TestCase):
     def check(self, text, name):
@@ -70,3 +94,12 @@ class Examples(unittest.TestCase):
 
     def test_keepers(self):
         self.check(KEEPERS, "keepers")
+
+    def test_powers(self):
+        self.check(POWERS, "powers")
+
+    def test_chains(self):
+        self.check(CHAINS, "chains")
+
+    def test_forms(self):
+        self.check(FORMS, "forms")

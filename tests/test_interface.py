@@ -21,6 +21,13 @@ FUNCTIONS = {
     "keepers": """along(told, row) behind(one, other) bracket(one, other) keepers(table, u, v, w)
         first_not_kept(table, u, v, w, told) first_unlike_product(table, other, told) taken_to_nothing(told)
         come_to(told) commuting(table) nucleus(table, side) centre(table)""",
+    "powers": """power(table, row, times) turned_power(table, row, times) powers(table, row, many) least_row(table, row)
+        first_nothing(table, row) comes_again(table, row) first_unlike_power(table, row) solved(table, one, other)
+        turned_solved(table, one, other)""",
+    "chains": """down(table, span, kind) steps_down(table, span, kind) up(table) steps_up(table) wordings(many)
+        first_alive(table, span, many) span_by(table, span, wording)""",
+    "forms": """form_worth(form, one, other) null_span(form, side) is_even(form) moved_forms(table)
+        first_not_moved(table, form) trace_form(table) across(table, form, span)""",
 }
 
 

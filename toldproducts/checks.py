@@ -35,6 +35,12 @@ def check_sizes(rows, size):
             raise InvalidRow(list(row))
 
 
+def check_rows_of(rows, size):
+    """Raise InvalidNumber for the first that is none, then InvalidRow for the first row that has not the size."""
+    check_rows(rows)
+    check_sizes(rows, size)
+
+
 def check_form(rows):
     """Raise InvalidSpan if rows of one size are no form of a span."""
     if not is_form(rows):
@@ -45,6 +51,12 @@ def check_span(rows, size):
     """Raise InvalidSpan if rows are no form of a span of rows of the size."""
     if not has_sizes(rows, size) or not is_form(rows):
         raise InvalidSpan(copied(rows))
+
+
+def check_span_of(rows, size):
+    """Raise InvalidNumber for the first that is none, then InvalidSpan if rows are no form of rows of the size."""
+    check_rows(rows)
+    check_span(rows, size)
 
 
 def check_map(rows, many, size):

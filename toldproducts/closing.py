@@ -1,7 +1,7 @@
 """Spans that grow by products until they hold them all; what is handed in is known to be right."""
 
 from toldproducts.elimination import form_of
-from toldproducts.solving import places_in, unit_rows
+from toldproducts.solving import places_in, related, rest_over, unit_rows
 
 
 def products_between(table, ones, others):
@@ -42,3 +42,12 @@ def spans_up(table, rows, products):
 def has_all(table, span, products):
     """Return True if all products of a span lie in it."""
     return all([places_in(span, row) is not None for row in products(table, span)])
+
+
+def led_into(table, others, span):
+    """Return the span of the rows whose products with each of some others, on both sides, lie in a span."""
+    rests = []
+    for one in unit_rows(table.size):
+        both = products_between(table, [one], others) + products_between(table, others, [one])
+        rests.append([pair for row in both for pair in rest_over(span, row)])
+    return related(rests)

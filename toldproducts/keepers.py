@@ -4,7 +4,7 @@ from toldproducts.checks import check_map, check_numbers, check_rows, copied, ha
 from toldproducts.elimination import form_of
 from toldproducts.errors import InvalidMap, InvalidNumber, InvalidRow
 from toldproducts.ratios import NOUGHT, negative
-from toldproducts.solving import added, less, related, unit_row, unit_rows
+from toldproducts.solving import added, folded, less, related, unit_row, unit_rows
 
 
 def along(told, row):
@@ -40,9 +40,9 @@ def keepers(table, u, v, w):
     # The rests go with the map: those of all maps are known from those of the maps with a single 1.
     rests = []
     for at in range(size * size):
-        told = _folded(unit_row(size * size, at), size)
+        told = folded(unit_row(size * size, at), size)
         rests.append([pair for i in range(size) for j in range(size) for pair in _rest(table, numbers, told, i, j)])
-    return [_folded(row, size) for row in related(rests)]
+    return [folded(row, size) for row in related(rests)]
 
 
 def first_not_kept(table, u, v, w, told):
@@ -126,11 +126,6 @@ def _image(told, row):
 
 def _behind(one, other):
     return [_image(one, row) for row in other]
-
-
-def _folded(row, size):
-    """Return a row of all numbers of a map as its rows."""
-    return [row[at:at + size] for at in range(0, len(row), size)]
 
 
 def _rest(table, numbers, told, i, j):

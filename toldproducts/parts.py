@@ -1,8 +1,8 @@
 """Parts of a table, and what is left over a two-sided part."""
 
-from toldproducts.checks import check_rows, check_sizes, check_span, copied
+from toldproducts.checks import check_rows, check_rows_of, check_sizes, check_span, check_span_of, copied
 from toldproducts.closing import (
-    has_all, left_products, own_products, products_between, right_products, side_products, spans_up,
+    has_all, led_into, left_products, own_products, products_between, right_products, side_products, spans_up,
 )
 from toldproducts.elimination import form_of
 from toldproducts.errors import InvalidSpan, NotTwoSided, NotWithin
@@ -26,43 +26,43 @@ def part(table, rows):
 
 def left_part(table, rows):
     """Return the least span with some rows that has all products of any row, on the left, with its rows."""
-    _check_rows_of(table, rows)
+    check_rows_of(rows, table.size)
     return spans_up(table, rows, left_products)[-1]
 
 
 def right_part(table, rows):
     """Return the least span with some rows that has all products of its rows with any row, on the right."""
-    _check_rows_of(table, rows)
+    check_rows_of(rows, table.size)
     return spans_up(table, rows, right_products)[-1]
 
 
 def two_sided(table, rows):
     """Return the least span with some rows that has all products of its rows with any row, on both sides."""
-    _check_rows_of(table, rows)
+    check_rows_of(rows, table.size)
     return spans_up(table, rows, side_products)[-1]
 
 
 def grown(table, rows):
     """Return the list of the spans from that of the rows on, each the one ahead with all products of its rows."""
-    _check_rows_of(table, rows)
+    check_rows_of(rows, table.size)
     return spans_up(table, rows, own_products)
 
 
 def is_part(table, span):
     """Return True if a span has all products of any two of its rows."""
-    _check_span_of(table, span)
+    check_span_of(span, table.size)
     return has_all(table, span, own_products)
 
 
 def is_two_sided(table, span):
     """Return True if a span has all products of its rows with any row, on both sides."""
-    _check_span_of(table, span)
+    check_span_of(span, table.size)
     return has_all(table, span, side_products)
 
 
 def killers(table, span):
     """Return the tuple of the spans of the rows that give noughts with a span, on its left and on its right."""
-    _check_span_of(table, span)
+    check_span_of(span, table.size)
     lefts = [products_between(table, [one], span) for one in unit_rows(table.size)]
     rights = [products_between(table, span, [one]) for one in unit_rows(table.size)]
     return (related(_one_behind_the_other(lefts)), related(_one_behind_the_other(rights)))
@@ -70,17 +70,13 @@ def killers(table, span):
 
 def held_by(table, span):
     """Return the span of the rows whose products with a span, on both sides, lie in it."""
-    _check_span_of(table, span)
-    rests = []
-    for one in unit_rows(table.size):
-        both = products_between(table, [one], span) + products_between(table, span, [one])
-        rests.append([rest_over(span, row) for row in both])
-    return related(_one_behind_the_other(rests))
+    check_span_of(span, table.size)
+    return led_into(table, span, span)
 
 
 def part_table(table, span):
     """Return the table of a part, its units the rows of the form."""
-    _check_span_of(table, span)
+    check_span_of(span, table.size)
     if not has_all(table, span, own_products):
         raise NotWithin(copied(span))
     if not span:
@@ -90,7 +86,7 @@ def part_table(table, span):
 
 def left_over(table, span):
     """Return the table of what is left over a two-sided part."""
-    _check_span_of(table, span)
+    check_span_of(span, table.size)
     _check_leaves_over(table, span)
     units = [unit_row(table.size, at) for at in _places_over(table, span)]
     return Table([[_over(table, span, table.product_of(one, other)) for other in units] for one in units])
@@ -114,16 +110,6 @@ def goes_between(table, one, other, row):
     firsts = products_between(table, products_between(table, one, [row]), other)
     lasts = products_between(table, one, products_between(table, [row], other))
     return form_of(firsts + lasts, table.size)
-
-
-def _check_rows_of(table, rows):
-    check_rows(rows)
-    check_sizes(rows, table.size)
-
-
-def _check_span_of(table, span):
-    check_rows(span)
-    check_span(span, table.size)
 
 
 def _check_leaves_over(table, span):

@@ -1,6 +1,6 @@
 """Rows of numbers and their spans."""
 
-from toldproducts.checks import check_form, check_number, check_numbers, check_rows, check_sizes
+from toldproducts.checks import check_form, check_number, check_numbers, check_rows, check_rows_of, check_sizes
 from toldproducts.elimination import form_of
 from toldproducts.errors import InvalidNumber, InvalidRow, InvalidUnit, UnlikeSizes
 from toldproducts.ratios import NOUGHT, ONE, lowest, multiplied
@@ -44,8 +44,7 @@ def times(number, row):
 def combined(numbers, rows, size):
     """Return the sum of rows, each so many times."""
     check_numbers(numbers)
-    check_rows(rows)
-    check_sizes(rows, size)
+    check_rows_of(rows, size)
     if len(numbers) != len(rows):
         raise InvalidRow(list(numbers))
     return added(numbers, rows, size)
@@ -53,8 +52,7 @@ def combined(numbers, rows, size):
 
 def span(rows, size):
     """Return the form of the span of some rows."""
-    check_rows(rows)
-    check_sizes(rows, size)
+    check_rows_of(rows, size)
     return form_of(rows, size)
 
 
@@ -103,13 +101,11 @@ def met(one, other, size):
 
 def _check_span_and_row(span, row):
     handed = [*span, row]
-    check_rows(handed)
-    check_sizes(handed, len(handed[0]))
+    check_rows_of(handed, len(handed[0]))
     check_form(span)
 
 
 def _check_two_spans(one, other, size):
-    check_rows([*one, *other])
-    check_sizes([*one, *other], size)
+    check_rows_of([*one, *other], size)
     check_form(one)
     check_form(other)

@@ -1,7 +1,7 @@
 """Terms, sayings that hold by a table, and sayings that follow from others."""
 
 from toldproducts.brackets import ALPHABET, all_monomials, fillings, leaves_of, text_of, with_leaves
-from toldproducts.checks import check_rows, check_sizes, copied
+from toldproducts.checks import check_rows_of, copied
 from toldproducts.consequences import consequences, numbers_of
 from toldproducts.errors import InvalidNumber, InvalidRow, NotLinear
 from toldproducts.ratios import lowest, whole
@@ -25,8 +25,7 @@ def worth(table, term, rows):
     known = letters_in(term)
     if len(rows) != len(known):
         raise InvalidRow(copied(rows))
-    check_rows(rows)
-    check_sizes(rows, table.size)
+    check_rows_of(rows, table.size)
     entries, below = worth_over(table, term, {letter: whole(row) for letter, row in zip(known, rows)})
     return [lowest(entry, below) for entry in entries]
 

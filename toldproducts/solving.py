@@ -25,6 +25,11 @@ def less(one, other):
     return added([ONE, negative(ONE)], [one, other], len(one))
 
 
+def folded(row, size):
+    """Return a row of all numbers of some rows of a size as these rows."""
+    return [row[at:at + size] for at in range(0, len(row), size)]
+
+
 def is_form(rows):
     """Return True if rows of one size are the form of a span."""
     before = -1

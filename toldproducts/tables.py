@@ -1,6 +1,6 @@
 """Tables: the products of all units, and so of all rows."""
 
-from toldproducts.checks import check_map, check_number, check_numbers, check_rows, check_sizes, copied, has_sizes
+from toldproducts.checks import check_map, check_number, check_rows, check_rows_of, copied, has_sizes
 from toldproducts.errors import InvalidBasis, InvalidTable, UnlikeSizes
 from toldproducts.ratios import NOUGHT, ONE, lowest, multiplied, whole
 from toldproducts.solving import added, all_told, related, told, unit_row, unit_rows
@@ -29,8 +29,7 @@ class Table:
         return [copied(rows) for rows in self._products]
 
     def __call__(self, one, other):
-        check_rows([one, other])
-        check_sizes([one, other], self.size)
+        check_rows_of([one, other], self.size)
         return self.product_of(one, other)
 
     def __eq__(self, other):
@@ -55,13 +54,13 @@ class Table:
 
 def left_map(table, row):
     """Return the list of the products of a row, on the left, with each unit."""
-    _check_row_of(table, row)
+    check_rows_of([row], table.size)
     return [table.product_of(row, one) for one in unit_rows(table.size)]
 
 
 def right_map(table, row):
     """Return the list of the products of each unit with a row, on the right."""
-    _check_row_of(table, row)
+    check_rows_of([row], table.size)
     return [table.product_of(one, row) for one in unit_rows(table.size)]
 
 
@@ -105,8 +104,7 @@ def crossed(one, other):
 
 def over(table, rows):
     """Return the table of the same product, where unit i stands for the row i of a basis."""
-    check_rows(rows)
-    check_sizes(rows, table.size)
+    check_rows_of(rows, table.size)
     if len(rows) != table.size or related(rows):
         raise InvalidBasis(copied(rows))
     return Table([[told(table.product_of(one, other), rows) for other in rows] for one in rows])
@@ -148,11 +146,6 @@ def right_ones(table):
 def _is_cube(products):
     size = len(products)
     return size >= 1 and all([len(rows) == size and has_sizes(rows, size) for rows in products])
-
-
-def _check_row_of(table, row):
-    check_numbers(row)
-    check_sizes([row], table.size)
 
 
 def _mixed(one, other, number):
