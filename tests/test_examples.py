@@ -71,6 +71,26 @@ FORMS = KEEPERS + """
 [[[[(1, 1), (0, 1)], [(0, 1), (-1, 1)]], [[(0, 1), (1, 1)], [(1, 1), (0, 1)]]], [[(2, 1), (0, 1)], [(0, 1), (-2, 1)]], (-4, 1), [[(1, 1), (0, 1)], [(0, 1), (1, 1)]], True]
 """
 
+TICKETS = TABLES + """
+>>> from toldproducts.tickets import lines_shown, shown, ticket_for
+>>> [shown(turn, [[(0, 1), (1, 1)]], [("take", 0), ("times", 0, 0)]), lines_shown(turn, [[(0, 1), (1, 1)]], [("take", 0), ("ahead", 1, 0), ("sum", [((1, 2), 0), ((3, 1), 1)])]), ticket_for(second, [[(0, 1), (1, 1)]], [(1, 1), (0, 1)], False), shown(turn, [[(0, 1), (1, 1)]], ticket_for(turn, [[(0, 1), (1, 1)]], [(5, 1), (0, 1)], False))]
+[[(-1, 1), (0, 1)], [[(0, 1), (1, 1)], [(-1, 1), (0, 1)], [(-3, 1), (1, 2)]], None, [(5, 1), (0, 1)]]
+"""
+
+READINGS = SAYINGS + """
+>>> from toldproducts.readings import read_row, read_table, read_term
+>>> from toldproducts.texts import show_table, show_term
+>>> [show_table(turn), read_table("1 0 ; 0 1 | 0 1 ; -1 0") == turn, show_term(either), read_term("((a b) + -1[(b a)])") == either, read_row("1/2 -3")]
+['1 0 ; 0 1 | 0 1 ; -1 0', True, '((a b) + -1[(b a)])', True, [(1, 2), (-3, 1)]]
+"""
+
+DESKS = TABLES + """
+>>> from toldproducts.desks import Desk
+>>> desk = Desk(second)
+>>> [desk.order("put a 1 -1"), desk.order("sided s a"), desk.order("show s"), desk.order("lies a s"), desk.order("breaks ((a b) + -1[(b a)])"), len(desk), desk.order("undo"), desk.order("names")]
+['done', 'done', '1 -1', 'yes', '1 0 ; 0 1', 2, 'done', 'a']
+"""
+
 
 class Examples(unittest.TestCase):
     def check(self, text, name):
@@ -103,3 +123,12 @@ class Examples(unittest.TestCase):
 
     def test_forms(self):
         self.check(FORMS, "forms")
+
+    def test_tickets(self):
+        self.check(TICKETS, "tickets")
+
+    def test_texts_and_readings(self):
+        self.check(READINGS, "readings")
+
+    def test_desks(self):
+        self.check(DESKS, "desks")

@@ -28,6 +28,11 @@ FUNCTIONS = {
         first_alive(table, span, many) span_by(table, span, wording)""",
     "forms": """form_worth(form, one, other) null_span(form, side) is_even(form) moved_forms(table)
         first_not_moved(table, form) trace_form(table) across(table, form, span)""",
+    "tickets": """shown(table, rows, ticket) lines_shown(table, rows, ticket) is_closed(ticket)
+        ticket_for(table, rows, wish, sided) joined(one, other, share)""",
+    "texts": """show_number(number) show_row(row) show_span(span) show_table(table) show_term(term)
+        show_monomial(monomial)""",
+    "readings": "read_number(text) read_row(text) read_table(text) read_term(text)",
 }
 
 
@@ -46,4 +51,18 @@ class Interface(unittest.TestCase):
         self.assertEqual(str(inspect.signature(kind)), "(products)")
         self.assertEqual(str(inspect.signature(kind.__call__)), "(self, one, other)")
         for name in ("size", "products"):
+            self.assertIsInstance(vars(kind)[name], property)
+
+    def test_desk(self):
+        kind = importlib.import_module("toldproducts.desks").Desk
+        self.assertEqual([str(inspect.signature(kind)), kind.__module__], ["(table)", "toldproducts.desks"])
+        for listed in """forks() names() put(name, row) make(name, deed) hold(name, deed) drop(name) branch(name) switch(name)
+                undo() row(name) span(name) holds(term) breaks(term) lies_in(name, other) same_as(name) ticket(name, names)
+                order(text) __len__()""".replace(", ", ",").split():
+            name, more = listed.split("(")
+            method = vars(kind)[name]
+            self.assertTrue(inspect.isfunction(method), listed)
+            told = str(inspect.signature(method)).replace(", ", ",")
+            self.assertEqual(told, "(self," + more if more != ")" else "(self)")
+        for name in ("table", "fork"):
             self.assertIsInstance(vars(kind)[name], property)

@@ -68,3 +68,9 @@ def check_map(rows, many, size):
 def has_sizes(rows, size):
     """Return True if all rows have the size."""
     return all([len(row) == size for row in rows])
+
+
+def is_cube(products):
+    """Return True if products are n lists of n rows of n numbers, n at least 1."""
+    size = len(products)
+    return size >= 1 and all([len(rows) == size and has_sizes(rows, size) for rows in products])

@@ -1,6 +1,6 @@
 """Tables: the products of all units, and so of all rows."""
 
-from toldproducts.checks import check_map, check_number, check_rows, check_rows_of, copied, has_sizes
+from toldproducts.checks import check_map, check_number, check_rows, check_rows_of, copied, is_cube
 from toldproducts.errors import InvalidBasis, InvalidTable, UnlikeSizes
 from toldproducts.ratios import NOUGHT, ONE, lowest, multiplied, whole
 from toldproducts.solving import added, all_told, related, told, unit_row, unit_rows
@@ -12,7 +12,7 @@ class Table:
     def __init__(self, products):
         for lists in products:
             check_rows(lists)
-        if not _is_cube(products):
+        if not is_cube(products):
             raise InvalidTable([copied(rows) for rows in products])
         self._products = [copied(rows) for rows in products]
         # One below for all numbers: a product of rows then adds up integers alone.
@@ -141,11 +141,6 @@ def left_ones(table):
 def right_ones(table):
     """Return the tuple (row, span) of all rows e with x e = x for all rows x, None if there is none."""
     return left_ones(opposite(table))
-
-
-def _is_cube(products):
-    size = len(products)
-    return size >= 1 and all([len(rows) == size and has_sizes(rows, size) for rows in products])
 
 
 def _mixed(one, other, number):
